@@ -1,0 +1,1 @@
+"""Rubbling: pebbling moves from two neighbours."""

@@ -1,0 +1,185 @@
+"""What the tests share: graphs, inputs outside the limits, and slow ways to the answers."""
+
+LARGEST = 4294967295
+
+EDGE = [0, 1]
+PATH_3 = [0, 1, 1, 2]
+PATH_4 = [0, 1, 1, 2, 2, 3]
+PATH_5 = [0, 1, 1, 2, 2, 3, 3, 4]
+TRIANGLE = [0, 1, 0, 2, 1, 2]
+CYCLE_4 = [0, 1, 0, 3, 1, 2, 2, 3]
+CYCLE_5 = [0, 1, 0, 4, 1, 2, 2, 3, 3, 4]
+STAR_5 = [0, 1, 0, 2, 0, 3, 0, 4]
+ALL_5 = [0, 1, 0, 2, 0, 3, 0, 4, 1, 2, 1, 3, 1, 4, 2, 3, 2, 4, 3, 4]
+TWO_PARTS_5 = [0, 1, 0, 2, 3, 4]
+
+# Of each: vertex_count, edges. One thing is wrong with each.
+WRONG_GRAPHS = [
+    # vertex_count
+    (0, []),
+    (6, []),
+    (6, EDGE),
+    (7, PATH_3),
+    (LARGEST, []),
+    (LARGEST, EDGE),
+    # an odd number of elements
+    (1, [0]),
+    (3, [0]),
+    (3, [0, 1, 1]),
+    (5, ALL_5 + [4]),
+    (5, ALL_5[:19]),
+    # an endpoint that isn't a vertex
+    (1, [0, 1]),
+    (3, [0, 3]),
+    (3, [0, 1, 1, 3]),
+    (3, [1, LARGEST]),
+    (5, [0, 1, 4, 5]),
+    (3, [3, 4]),
+    # u = v
+    (1, [0, 0]),
+    (3, [0, 0]),
+    (3, [1, 1]),
+    (3, [0, 1, 1, 1]),
+    (5, [0, 1, 4, 4]),
+    # u > v
+    (2, [1, 0]),
+    (3, [0, 1, 2, 1]),
+    (5, [0, 4, 4, 3]),
+    # not in strictly increasing lexicographic order
+    (3, [1, 2, 0, 1]),
+    (3, [0, 2, 0, 1]),
+    (3, [0, 1, 1, 2, 0, 2]),
+    (5, [0, 1, 0, 2, 3, 4, 2, 3]),
+    # a pair told twice
+    (2, [0, 1, 0, 1]),
+    (3, [0, 1, 1, 2, 1, 2]),
+    (3, [0, 1, 1, 2, 0, 1]),
+    # 22 elements
+    (5, ALL_5 + [3, 4]),
+    (5, [0, 1] + ALL_5),
+    (5, ALL_5 + [4, 5]),
+    (5, [0, 1] * 11),
+    (5, [0] * 22),
+    (5, [LARGEST] * 22),
+]
+
+# Of each: vertex_count, edges, pebbles. The graph is within its limits.
+WRONG_PEBBLES = [
+    # no element
+    (1, [], []),
+    (3, PATH_3, []),
+    # fewer and more elements than vertices
+    (2, EDGE, [1]),
+    (3, PATH_3, [1, 0]),
+    (5, ALL_5, [1, 1, 1, 1]),
+    (1, [], [1, 0]),
+    (3, PATH_3, [1, 0, 1, 0]),
+    (5, ALL_5, [1, 1, 1, 1, 1, 1]),
+    # 7 elements
+    (1, [], [0, 0, 0, 0, 0, 0, 0]),
+    (5, ALL_5, [1, 1, 1, 1, 1, 1, 1]),
+    # the sum 13
+    (1, [], [13]),
+    (3, PATH_3, [12, 0, 1]),
+    (3, PATH_3, [4, 5, 4]),
+    (5, ALL_5, [3, 3, 3, 3, 1]),
+    # larger elements
+    (1, [], [LARGEST]),
+    (3, PATH_3, [LARGEST, 0, 0]),
+    (3, PATH_3, [0, 0, LARGEST]),
+    (5, ALL_5, [LARGEST] * 5),
+]
+
+
+class GuardedList(list):
+    """A list that refuses every change, be it taken back again or not."""
+
+    def refuse(self, *args, **kwargs):
+        raise AssertionError("a list that was handed in is changed")
+
+    __setitem__ = __delitem__ = __iadd__ = __imul__ = refuse
+    append = clear = extend = insert = pop = remove = reverse = sort = refuse
+
+
+def matching_pebbles(vertex_count):
+    """A configuration that fits the vertex count, so that it can't be the error."""
+    return [0] * min(vertex_count, 7)
+
+
+def graphs_up_to(most_vertices):
+    """Every graph with at most that many vertices, as vertex_count and edges."""
+    graphs = []
+    for vertex_count in range(1, most_vertices + 1):
+        pairs = [(u, v) for u in range(vertex_count) for v in range(u + 1, vertex_count)]
+        for chosen in range(2 ** len(pairs)):
+            edges = []
+            for place, pair in enumerate(pairs):
+                if chosen >> place & 1:
+                    edges += pair
+            graphs.append((vertex_count, edges))
+    return graphs
+
+
+def configurations(vertex_count, most_pebbles):
+    """Every configuration with at most that many pebbles."""
+    if vertex_count == 0:
+        return [[]]
+    return [
+        [number] + rest
+        for number in range(most_pebbles + 1)
+        for rest in configurations(vertex_count - 1, most_pebbles - number)
+    ]
+
+
+class SlowWay:
+    """Goes through the sequences of moves of one graph, depth first.
+
+    Depth first, by an adjacency matrix and with both orders of each pair, so that
+    it shares no step with the program.
+    """
+
+    def __init__(self, vertex_count, edges, pebbling_only=False):
+        self.vertices = range(vertex_count)
+        self.adjacent = [[False] * vertex_count for u in self.vertices]
+        for place in range(0, len(edges), 2):
+            u, v = edges[place : place + 2]
+            self.adjacent[u][v] = self.adjacent[v][u] = True
+        self.pebbling_only = pebbling_only
+        self.known = {}
+
+    def followers(self, pebbles):
+        """Every configuration that one move leads to."""
+        found = []
+        for target in self.vertices:
+            for first in self.vertices:
+                for second in self.vertices:
+                    if self.pebbling_only and first != second:
+                        continue
+                    if not (self.adjacent[first][target] and self.adjacent[second][target]):
+                        continue
+                    after = list(pebbles)
+                    after[first] -= 1
+                    after[second] -= 1
+                    if after[first] >= 0 and after[second] >= 0:
+                        after[target] += 1
+                        found.append(tuple(after))
+        return found
+
+    def fewest_moves(self, target, count, pebbles):
+        """The smallest number of moves, or None if no sequence of moves is enough."""
+        if pebbles[target] >= count:
+            return 0
+        key = ("fewest", target, count, tuple(pebbles))
+        if key not in self.known:
+            further = [self.fewest_moves(target, count, after) for after in self.followers(pebbles)]
+            reached = [moves + 1 for moves in further if moves is not None]
+            self.known[key] = min(reached, default=None)
+        return self.known[key]
+
+    def most_pebbles(self, target, pebbles):
+        """The largest number of pebbles on the target after any number of moves."""
+        key = ("most", target, tuple(pebbles))
+        if key not in self.known:
+            further = [self.most_pebbles(target, after) for after in self.followers(pebbles)]
+            self.known[key] = max([pebbles[target]] + further)
+        return self.known[key]
