@@ -28,6 +28,21 @@ def min_moves(vertex_count, target, count, edges, pebbles):
     return [NOT_REACHED]
 
 
+def max_pebbles_at(vertex_count, target, edges, pebbles):
+    """Answer the largest number of pebbles on the target after any number of moves."""
+    code = first_error(vertex_count, target, edges, pebbles)
+    if code is not None:
+        return [code]
+    moves = all_moves(vertex_count, edges)
+    layer = first_layer(pebbles)
+    most = 0
+    # The largest number can stand in any layer: a move may take pebbles off the target.
+    while len(layer) > 0:
+        most = max(most, most_on(target, layer))
+        layer = next_layer(layer, moves)
+    return [most]
+
+
 def first_error(vertex_count, target, edges, pebbles):
     """Give the code of the first error that applies, or None."""
     if not is_graph(vertex_count, edges):

@@ -14,6 +14,7 @@ ROOT = pathlib.Path(__file__).resolve().parent.parent
 PACKAGE = ROOT / "neighbourpairs"
 INTERFACE = {
     "min_moves": ["vertex_count", "target", "count", "edges", "pebbles"],
+    "max_pebbles_at": ["vertex_count", "target", "edges", "pebbles"],
 }
 
 # L6 and L7: the parts of a tree that may stand in a file.
