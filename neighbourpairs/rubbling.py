@@ -1,14 +1,17 @@
-"""Rubbling on small graphs: how many pebbles come to a vertex, with how few moves.
+"""Rubbling on small graphs: how many pebbles come to a vertex, with how few moves or pebbles.
 
 Every operation answers a list of whole numbers; an error is its code alone.
 """
 
 MOST_VERTICES = 5
 MOST_PEBBLES = 12
+LARGEST_DIAMETER = 3
 
 NO_SUCH_TARGET = -2
 OUTSIDE_LIMITS = -22
 NOT_REACHED = -33
+NOT_CONNECTED = -33
+DIAMETER_TOO_LARGE = -75
 
 
 def min_moves(vertex_count, target, count, edges, pebbles):
@@ -43,12 +46,34 @@ def max_pebbles_at(vertex_count, target, edges, pebbles):
     return [most]
 
 
+def rubbling_number(vertex_count, target, edges):
+    """Answer the smallest number of pebbles that reaches the target wherever they lie."""
+    code = first_error_of_number(vertex_count, target, edges)
+    if code is not None:
+        return [code]
+    return [smallest_number(vertex_count, target, all_moves(vertex_count, edges))]
+
+
 def first_error(vertex_count, target, edges, pebbles):
     """Give the code of the first error that applies, or None."""
     if not is_graph(vertex_count, edges):
         return OUTSIDE_LIMITS
     if not is_configuration(vertex_count, pebbles):
         return OUTSIDE_LIMITS
+    if target >= vertex_count:
+        return NO_SUCH_TARGET
+    return None
+
+
+def first_error_of_number(vertex_count, target, edges):
+    """Give the code of the first error that applies where no pebbles are handed in, or None."""
+    if not is_graph(vertex_count, edges):
+        return OUTSIDE_LIMITS
+    neighbours = neighbour_lists(vertex_count, edges)
+    if not is_connected(neighbours):
+        return NOT_CONNECTED
+    if diameter(neighbours) > LARGEST_DIAMETER:
+        return DIAMETER_TOO_LARGE
     if target >= vertex_count:
         return NO_SUCH_TARGET
     return None
@@ -86,6 +111,32 @@ def neighbour_lists(vertex_count, edges):
         neighbours[u].append(v)
         neighbours[v].append(u)
     return neighbours
+
+
+def is_connected(neighbours):
+    """Tell whether a path leads from the vertex 0 to every other one."""
+    return len(distances_from(0, neighbours)) == len(neighbours)
+
+
+def diameter(neighbours):
+    """Give the largest distance between two vertices of a connected graph."""
+    largest = 0
+    for start in range(len(neighbours)):
+        largest = max(largest, max(distances_from(start, neighbours).values()))
+    return largest
+
+
+def distances_from(start, neighbours):
+    """Give, by vertex, the distance of each one to which a path leads."""
+    distances = {start: 0}
+    waiting = [start]
+    while len(waiting) > 0:
+        vertex = waiting.pop(0)
+        for neighbour in neighbours[vertex]:
+            if neighbour not in distances:
+                distances[neighbour] = distances[vertex] + 1
+                waiting.append(neighbour)
+    return distances
 
 
 def all_moves(vertex_count, edges):
@@ -135,3 +186,42 @@ def after_move(configuration, first, second, target):
 def most_on(target, layer):
     """Give the largest number of pebbles on the target in the layer."""
     return max([configuration[target] for configuration in layer])
+
+
+def smallest_number(vertex_count, target, moves):
+    """Give the smallest number of pebbles that reaches the target by the moves wherever they lie."""
+    failing = first_layer([0] * vertex_count)
+    number = 0
+    # In a connected graph enough pebbles always reach the target, so the layers come to an end.
+    while len(failing) > 0:
+        failing = next_failing_layer(failing, target, moves)
+        number += 1
+    return number
+
+
+def next_failing_layer(failing, target, moves):
+    """Give the configurations that don't reach the target with one pebble more than these."""
+    following = {}
+    # A pebble more never hinders, so what fails with it fails without it, too.
+    for configuration in failing:
+        for vertex in range(len(configuration)):
+            fuller = with_one_more(configuration, vertex)
+            if vertex != target and every_move_fails(fuller, moves, failing):
+                following[fuller] = True
+    return following
+
+
+def with_one_more(configuration, vertex):
+    """Give the configuration with one more pebble on the vertex."""
+    changed = list(configuration)
+    changed[vertex] += 1
+    return tuple(changed)
+
+
+def every_move_fails(configuration, moves, failing):
+    """Tell whether each move that is possible leads to one of the failing configurations."""
+    for first, second, target in moves:
+        if can_move(configuration, first, second):
+            if after_move(configuration, first, second, target) not in failing:
+                return False
+    return True

@@ -10,8 +10,50 @@ TRIANGLE = [0, 1, 0, 2, 1, 2]
 CYCLE_4 = [0, 1, 0, 3, 1, 2, 2, 3]
 CYCLE_5 = [0, 1, 0, 4, 1, 2, 2, 3, 3, 4]
 STAR_5 = [0, 1, 0, 2, 0, 3, 0, 4]
+# The path 0-1-2-3 with a fifth vertex at 1: the diameter is just 3.
+FORK_5 = [0, 1, 1, 2, 1, 4, 2, 3]
+# A triangle with a tail of two more vertices: the diameter is just 3.
+TAILED_5 = [0, 1, 0, 2, 1, 2, 2, 3, 3, 4]
 ALL_5 = [0, 1, 0, 2, 0, 3, 0, 4, 1, 2, 1, 3, 1, 4, 2, 3, 2, 4, 3, 4]
 TWO_PARTS_5 = [0, 1, 0, 2, 3, 4]
+
+# Of each: vertex_count, edges. All are connected and have a diameter of at most 3.
+NARROW_GRAPHS = [
+    (1, []),
+    (2, EDGE),
+    (3, PATH_3),
+    (3, TRIANGLE),
+    (4, PATH_4),
+    (4, CYCLE_4),
+    (5, CYCLE_5),
+    (5, STAR_5),
+    (5, FORK_5),
+    (5, TAILED_5),
+    (5, ALL_5),
+]
+
+# Of each: vertex_count, edges. None is connected.
+LOOSE_GRAPHS = [
+    (2, []),
+    (3, EDGE),
+    (3, [0, 2]),
+    (3, [1, 2]),
+    (4, [0, 1, 2, 3]),
+    (4, TRIANGLE),
+    (5, []),
+    (5, PATH_4),
+    (5, TWO_PARTS_5),
+    (5, [1, 2, 1, 3, 1, 4, 2, 3, 2, 4, 3, 4]),
+]
+
+# Of each: vertex_count, edges. All are paths of five vertices, the only connected
+# graphs within the limits with a diameter greater than 3.
+WIDE_GRAPHS = [
+    (5, PATH_5),
+    (5, [0, 2, 0, 3, 1, 3, 1, 4]),
+    (5, [0, 4, 1, 2, 1, 3, 3, 4]),
+    (5, [0, 1, 0, 2, 2, 3, 3, 4]),
+]
 
 # Of each: vertex_count, edges. One thing is wrong with each.
 WRONG_GRAPHS = [
@@ -131,6 +173,26 @@ def configurations(vertex_count, most_pebbles):
     ]
 
 
+def distances(vertex_count, edges):
+    """The distance of every two vertices, as a table; None where no path leads."""
+    far = vertex_count
+    table = [[0 if u == v else far for v in range(vertex_count)] for u in range(vertex_count)]
+    for place in range(0, len(edges), 2):
+        u, v = edges[place : place + 2]
+        table[u][v] = table[v][u] = 1
+    for through in range(vertex_count):
+        for u in range(vertex_count):
+            for v in range(vertex_count):
+                table[u][v] = min(table[u][v], table[u][through] + table[through][v])
+    return [[None if distance >= far else distance for distance in row] for row in table]
+
+
+def is_narrow(vertex_count, edges):
+    """Whether the graph is connected, with a diameter of at most 3."""
+    found = sum(distances(vertex_count, edges), [])
+    return None not in found and max(found) <= 3
+
+
 class SlowWay:
     """Goes through the sequences of moves of one graph, depth first.
 
@@ -183,3 +245,14 @@ class SlowWay:
             further = [self.most_pebbles(target, after) for after in self.followers(pebbles)]
             self.known[key] = max([pebbles[target]] + further)
         return self.known[key]
+
+    def smallest_number(self, target):
+        """The smallest positive number of pebbles that reaches the target wherever they lie."""
+        number = 1
+        while not all(
+            self.most_pebbles(target, pebbles) >= 1
+            for pebbles in configurations(len(self.vertices), number)
+            if sum(pebbles) == number
+        ):
+            number += 1
+        return number
