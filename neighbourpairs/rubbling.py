@@ -54,6 +54,17 @@ def rubbling_number(vertex_count, target, edges):
     return [smallest_number(vertex_count, target, all_moves(vertex_count, edges))]
 
 
+def savings(vertex_count, target, edges):
+    """Answer the pebbling number of the target minus its rubbling number."""
+    code = first_error_of_number(vertex_count, target, edges)
+    if code is not None:
+        return [code]
+    moves = all_moves(vertex_count, edges)
+    by_pebbling = smallest_number(vertex_count, target, pebbling_moves(moves))
+    by_rubbling = smallest_number(vertex_count, target, moves)
+    return [by_pebbling - by_rubbling]
+
+
 def first_error(vertex_count, target, edges, pebbles):
     """Give the code of the first error that applies, or None."""
     if not is_graph(vertex_count, edges):
@@ -150,6 +161,11 @@ def all_moves(vertex_count, edges):
                 if first <= second:
                     moves.append((first, second, target))
     return moves
+
+
+def pebbling_moves(moves):
+    """Give those of the moves that take both pebbles from one vertex."""
+    return [(first, second, target) for first, second, target in moves if first == second]
 
 
 def first_layer(pebbles):

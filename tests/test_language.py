@@ -16,6 +16,7 @@ INTERFACE = {
     "min_moves": ["vertex_count", "target", "count", "edges", "pebbles"],
     "max_pebbles_at": ["vertex_count", "target", "edges", "pebbles"],
     "rubbling_number": ["vertex_count", "target", "edges"],
+    "savings": ["vertex_count", "target", "edges"],
 }
 
 # L6 and L7: the parts of a tree that may stand in a file.
