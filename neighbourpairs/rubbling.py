@@ -36,14 +36,7 @@ def max_pebbles_at(vertex_count, target, edges, pebbles):
     code = first_error(vertex_count, target, edges, pebbles)
     if code is not None:
         return [code]
-    moves = all_moves(vertex_count, edges)
-    layer = first_layer(pebbles)
-    most = 0
-    # The largest number can stand in any layer: a move may take pebbles off the target.
-    while len(layer) > 0:
-        most = max(most, most_on(target, layer))
-        layer = next_layer(layer, moves)
-    return [most]
+    return [most_after_moves(target, pebbles, all_moves(vertex_count, edges))]
 
 
 def rubbling_number(vertex_count, target, edges):
@@ -63,6 +56,20 @@ def savings(vertex_count, target, edges):
     by_pebbling = smallest_number(vertex_count, target, pebbling_moves(moves))
     by_rubbling = smallest_number(vertex_count, target, moves)
     return [by_pebbling - by_rubbling]
+
+
+def optimal_configuration(vertex_count, edges):
+    """Answer the fewest pebbles from which every vertex can be reached, and where they lie."""
+    if not is_graph(vertex_count, edges):
+        return [OUTSIDE_LIMITS]
+    moves = all_moves(vertex_count, edges)
+    layer = first_layer([0] * vertex_count)
+    optimal = None
+    # One pebble on each vertex is always enough, so an optimal configuration is found.
+    while optimal is None:
+        layer = next_fuller_layer(layer)
+        optimal = first_reaching_all(layer, moves)
+    return [sum(optimal)] + list(optimal)
 
 
 def first_error(vertex_count, target, edges, pebbles):
@@ -204,6 +211,17 @@ def most_on(target, layer):
     return max([configuration[target] for configuration in layer])
 
 
+def most_after_moves(target, pebbles, moves):
+    """Give the largest number of pebbles on the target after any number of the moves."""
+    layer = first_layer(pebbles)
+    most = 0
+    # The largest number can stand in any layer: a move may take pebbles off the target.
+    while len(layer) > 0:
+        most = max(most, most_on(target, layer))
+        layer = next_layer(layer, moves)
+    return most
+
+
 def smallest_number(vertex_count, target, moves):
     """Give the smallest number of pebbles that reaches the target by the moves wherever they lie."""
     failing = first_layer([0] * vertex_count)
@@ -240,4 +258,29 @@ def every_move_fails(configuration, moves, failing):
         if can_move(configuration, first, second):
             if after_move(configuration, first, second, target) not in failing:
                 return False
+    return True
+
+
+def next_fuller_layer(layer):
+    """Give the configurations with one pebble more than those of the layer, each one once."""
+    following = {}
+    for configuration in layer:
+        for vertex in range(len(configuration)):
+            following[with_one_more(configuration, vertex)] = True
+    return following
+
+
+def first_reaching_all(layer, moves):
+    """Give the lexicographically first configuration that reaches every vertex, or None."""
+    for configuration in sorted(layer):
+        if reaches_all(configuration, moves):
+            return configuration
+    return None
+
+
+def reaches_all(configuration, moves):
+    """Tell whether every vertex is reachable, each one by a sequence of moves of its own."""
+    for target in range(len(configuration)):
+        if most_after_moves(target, configuration, moves) == 0:
+            return False
     return True

@@ -1,5 +1,8 @@
 """What the tests share: graphs, inputs outside the limits, and slow ways to the answers."""
 
+import contextlib
+import io
+
 LARGEST = 4294967295
 
 EDGE = [0, 1]
@@ -143,6 +146,38 @@ class GuardedList(list):
     append = clear = extend = insert = pop = remove = reverse = sort = refuse
 
 
+class LeavesAllAsItWas:
+    """What every operation keeps to; stands ahead of unittest.TestCase among the bases.
+
+    The class that has it as its base brings `operation` and CALLS, of each call the
+    arguments and the answer.
+    """
+
+    def test_lists_handed_in_are_not_changed(self):
+        for arguments, expected in self.CALLS:
+            guarded = [
+                GuardedList(argument) if isinstance(argument, list) else argument
+                for argument in arguments
+            ]
+            self.assertEqual(self.operation(*guarded), expected, arguments)
+            self.assertEqual(guarded, list(arguments))
+
+    def test_same_call_again_gives_the_same(self):
+        for _ in range(3):
+            for arguments, expected in self.CALLS:
+                answer = self.operation(*arguments)
+                self.assertEqual(answer, expected, arguments)
+                # The answer is the caller's own: changing it must not reach the next call.
+                answer.append(99)
+
+    def test_nothing_is_printed(self):
+        out = io.StringIO()
+        with contextlib.redirect_stdout(out), contextlib.redirect_stderr(out):
+            for arguments, _ in self.CALLS:
+                self.operation(*arguments)
+        self.assertEqual(out.getvalue(), "")
+
+
 def matching_pebbles(vertex_count):
     """A configuration that fits the vertex count, so that it can't be the error."""
     return [0] * min(vertex_count, 7)
@@ -245,6 +280,10 @@ class SlowWay:
             further = [self.most_pebbles(target, after) for after in self.followers(pebbles)]
             self.known[key] = max([pebbles[target]] + further)
         return self.known[key]
+
+    def reaches_all(self, pebbles):
+        """Whether every vertex is reachable."""
+        return all(self.most_pebbles(target, pebbles) >= 1 for target in self.vertices)
 
     def smallest_number(self, target):
         """The smallest positive number of pebbles that reaches the target wherever they lie."""

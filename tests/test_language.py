@@ -17,6 +17,7 @@ INTERFACE = {
     "max_pebbles_at": ["vertex_count", "target", "edges", "pebbles"],
     "rubbling_number": ["vertex_count", "target", "edges"],
     "savings": ["vertex_count", "target", "edges"],
+    "optimal_configuration": ["vertex_count", "edges"],
 }
 
 # L6 and L7: the parts of a tree that may stand in a file.
