@@ -1,10 +1,11 @@
-"""Rubbling on small graphs: how many pebbles come to a vertex, with how few moves or pebbles.
+"""Rubbling on small graphs: what moves do, how many pebbles they bring, how few are enough.
 
 Every operation answers a list of whole numbers; an error is its code alone.
 """
 
 MOST_VERTICES = 5
 MOST_PEBBLES = 12
+MOST_MOVES = 10
 LARGEST_DIAMETER = 3
 
 NO_SUCH_TARGET = -2
@@ -72,6 +73,23 @@ def optimal_configuration(vertex_count, edges):
     return [sum(optimal)] + list(optimal)
 
 
+def apply_moves(vertex_count, edges, pebbles, moves):
+    """Answer how many of the moves are performed, and the configuration that they lead to."""
+    if not is_graph(vertex_count, edges) or not is_configuration(vertex_count, pebbles):
+        return [OUTSIDE_LIMITS]
+    if not is_list_of_moves(vertex_count, moves):
+        return [OUTSIDE_LIMITS]
+    neighbours = neighbour_lists(vertex_count, edges)
+    configuration = tuple(pebbles)
+    moves_made = 0
+    for first, second, target in move_triples(moves):
+        if not is_possible(configuration, neighbours[target], first, second):
+            break
+        configuration = after_move(configuration, first, second, target)
+        moves_made += 1
+    return [moves_made] + list(configuration)
+
+
 def first_error(vertex_count, target, edges, pebbles):
     """Give the code of the first error that applies, or None."""
     if not is_graph(vertex_count, edges):
@@ -117,9 +135,21 @@ def is_configuration(vertex_count, pebbles):
     return len(pebbles) == vertex_count and sum(pebbles) <= MOST_PEBBLES
 
 
+def is_list_of_moves(vertex_count, moves):
+    """Tell whether there are whole moves, not too many, that name vertices alone."""
+    if len(moves) > 3 * MOST_MOVES or len(moves) % 3 != 0:
+        return False
+    return all([vertex < vertex_count for vertex in moves])
+
+
 def edge_pairs(edges):
     """Give the edges as pairs, in their order."""
     return [(edges[place], edges[place + 1]) for place in range(0, len(edges), 2)]
+
+
+def move_triples(moves):
+    """Give the moves as (first, second, target), in their order."""
+    return [tuple(moves[place:place + 3]) for place in range(0, len(moves), 3)]
 
 
 def neighbour_lists(vertex_count, edges):
@@ -188,6 +218,14 @@ def next_layer(layer, moves):
             if can_move(configuration, first, second):
                 following[after_move(configuration, first, second, target)] = True
     return following
+
+
+def is_possible(configuration, neighbours, first, second):
+    """Tell whether the move to the vertex with these neighbours can be performed."""
+    # What isn't adjacent to its target is no rubbling move, whatever pebbles there are.
+    if first not in neighbours or second not in neighbours:
+        return False
+    return can_move(configuration, first, second)
 
 
 def can_move(configuration, first, second):

@@ -18,6 +18,7 @@ INTERFACE = {
     "rubbling_number": ["vertex_count", "target", "edges"],
     "savings": ["vertex_count", "target", "edges"],
     "optimal_configuration": ["vertex_count", "edges"],
+    "apply_moves": ["vertex_count", "edges", "pebbles", "moves"],
 }
 
 # L6 and L7: the parts of a tree that may stand in a file.
